@@ -1,0 +1,105 @@
+"""Each name of the interface stands in its file, with its arguments; each file keeps the plain rules of the language."""
+
+import ast
+import builtins
+import importlib
+import inspect
+import unittest
+from pathlib import Path
+
+PACKAGE = Path(__file__).resolve().parent.parent / "boughswap"
+
+FUNCTIONS = {
+    "wholes": ["is_whole(thing, low, high)"],
+    "ratios": [
+        "fraction(top, bottom=1)", "is_fraction(thing)", "plus(one, other)", "minus(one, other)",
+        "times(one, other)", "shared(one, other)",
+    ],
+    "polys": [
+        "is_poly(thing)", "poly(numbers)", "added(one, other)", "taken_off(one, other)",
+        "multiplied(one, other)", "raised(one, many)", "worth_at(one, x)", "ups(one)", "downs(one)",
+        "weight_of(one)", "divided(one, other)", "whole_quotient(one, other)",
+    ],
+}
+
+LIBRARY = {
+    "heapq": ["heappush", "heappop", "heapify", "heapreplace", "heappushpop"],
+    "math": ["gcd", "lcm", "isqrt", "comb", "perm", "factorial"],
+    "itertools": [
+        "product", "combinations", "permutations", "chain", "accumulate", "pairwise", "islice", "zip_longest",
+    ],
+    "collections": ["defaultdict"],
+}
+
+BUILTINS = """
+    len range enumerate zip min max sum abs sorted reversed int str bool bytes list tuple dict set frozenset
+    isinstance ord repr any all divmod pow getattr hasattr setattr iter next map super
+    Exception ValueError TypeError KeyError IndexError LookupError ZeroDivisionError ArithmeticError
+    OverflowError RuntimeError NotImplementedError AttributeError StopIteration NotImplemented
+    property staticmethod classmethod object
+""".split()
+
+
+def trees():
+    return [(path, ast.parse(path.read_text())) for path in sorted(PACKAGE.glob("*.py"))]
+
+
+class InterfaceTest(unittest.TestCase):
+
+    def test_each_function_is_defined_in_its_file_with_its_arguments(self):
+        for name, calls in FUNCTIONS.items():
+            module = importlib.import_module("boughswap." + name)
+            for call in calls:
+                with self.subTest(call):
+                    function = getattr(module, call.partition("(")[0])
+                    self.assertEqual(call, function.__name__ + str(inspect.signature(function)))
+                    self.assertEqual(module.__name__, function.__module__)
+
+
+class LanguageTest(unittest.TestCase):
+
+    def test_the_folder_holds_plain_python_files_alone(self):
+        for path in PACKAGE.iterdir():
+            if path.name != "__pycache__":
+                self.assertRegex(path.name, r"\A[a-z0-9_]+\.py\Z")
+
+    def test_sizes_and_signs(self):
+        for path, tree in trees():
+            text = path.read_bytes().decode("ascii")
+            self.assertRegex(text, r"\A[ -~\n]*\Z", path.name)
+            self.assertLessEqual(text.count("\n"), 399, path.name)
+            self.assertLessEqual(max(map(len, text.split("\n"))), 120, path.name)
+            for node in ast.walk(tree):
+                if isinstance(node, ast.FunctionDef):
+                    self.assertLessEqual(node.end_lineno - node.lineno + 1, 40, node.name)
+
+    def test_imports(self):
+        for path, tree in trees():
+            for node in ast.walk(tree):
+                self.assertNotIsInstance(node, ast.Import, path.name)
+                if isinstance(node, ast.ImportFrom) and not node.module.startswith("boughswap."):
+                    for alias in node.names:
+                        self.assertIn(alias.name, LIBRARY[node.module], path.name)
+                        self.assertIsNone(alias.asname, path.name)
+
+    def test_builtins(self):
+        barred = set(dir(builtins)) - set(BUILTINS)
+        for path, tree in trees():
+            for node in ast.walk(tree):
+                if isinstance(node, ast.Name):
+                    self.assertNotIn(node.id, barred, path.name)
+                    if isinstance(node.ctx, ast.Store):
+                        self.assertNotIn(node.id, dir(builtins), path.name)
+                if isinstance(node, ast.arg):
+                    self.assertNotIn(node.arg, dir(builtins), path.name)
+
+    def test_neither_floats_nor_their_quotients(self):
+        for path, tree in trees():
+            for node in ast.walk(tree):
+                self.assertNotIsInstance(node, ast.Div, path.name)
+                if isinstance(node, ast.Constant):
+                    self.assertNotIsInstance(node.value, (float, complex), path.name)
+
+
+if __name__ == "__main__":
+    unittest.main()
