@@ -1,4 +1,4 @@
-"""Each name of the interface stands in its file, with its arguments; each file keeps the plain rules of the language."""
+"""Each name of the interface stands in its file, with its arguments; each file keeps plain rules of the language."""
 
 import ast
 import builtins
@@ -19,6 +19,21 @@ FUNCTIONS = {
         "is_poly(thing)", "poly(numbers)", "added(one, other)", "taken_off(one, other)",
         "multiplied(one, other)", "raised(one, many)", "worth_at(one, x)", "ups(one)", "downs(one)",
         "weight_of(one)", "divided(one, other)", "whole_quotient(one, other)",
+    ],
+    "trees": ["is_tree(kind, thing)", "trees_in(kind, row)", "deep_of(kind, tree)", "leaf_tree(kind)"],
+    "counts": ["how_many(kind, size)", "tree_at(kind, size, number)", "number_of(kind, tree)"],
+    "racks": [
+        "is_rack(thing)", "rack_poly(rack)", "has_trees(rack)", "is_thing(kind, rack, thing)",
+        "trees_of(kind, rack, thing)", "put_beside(one, two)", "put_left(kind, one, two, thing)",
+        "put_right(kind, one, two, thing)", "side_of(kind, one, two, thing)", "put_times(one, two)",
+        "paired(kind, one, two, thing, other)", "unpaired(kind, one, two, thing)",
+    ],
+}
+
+METHODS = {
+    ("kinds", "Kind"): [
+        "__init__(self, makers)", "__len__(self)", "__eq__(self, other)", "makers(self)", "name(self, maker)",
+        "within(self, maker)", "number(self, name)", "poly(self)", "gap(self)", "first_leaf(self)", "first_wide(self)",
     ],
 }
 
@@ -54,6 +69,16 @@ class InterfaceTest(unittest.TestCase):
                     function = getattr(module, call.partition("(")[0])
                     self.assertEqual(call, function.__name__ + str(inspect.signature(function)))
                     self.assertEqual(module.__name__, function.__module__)
+
+    def test_each_class_is_defined_in_its_file_with_its_methods_in_itself(self):
+        for (name, word), calls in METHODS.items():
+            module = importlib.import_module("boughswap." + name)
+            own = getattr(module, word)
+            self.assertEqual((module.__name__, word), (own.__module__, own.__name__))
+            for call in calls:
+                with self.subTest(call):
+                    method = vars(own)[call.partition("(")[0]]
+                    self.assertEqual(call, method.__name__ + str(inspect.signature(method)))
 
 
 class LanguageTest(unittest.TestCase):
