@@ -28,12 +28,28 @@ FUNCTIONS = {
         "put_right(kind, one, two, thing)", "side_of(kind, one, two, thing)", "put_times(one, two)",
         "paired(kind, one, two, thing, other)", "unpaired(kind, one, two, thing)",
     ],
+    "lists": [
+        "how_many_things(kind, rack, size)", "thing_at(kind, rack, size, number)", "number_of_thing(kind, rack, thing)",
+    ],
+    "shapes": [
+        "is_shape(thing)", "is_of(kind, shape, thing)", "flat_of(shape)", "flattened(kind, shape, thing)",
+        "folded(kind, shape, thing)",
+    ],
+    "steps": [
+        "can_do(kind, rack, step)", "rack_after(kind, rack, step)", "led_to(kind, rack, step, thing)",
+        "led_back(kind, rack, step, thing)", "undone(kind, rack, step)", "opens_of(rack)", "closes_of(kind, rack)",
+    ],
+    "turnings": ["join(one, two)", "turn_beside(one, two)", "turn_spread(rack, turning)", "trimmed(turning)"],
 }
 
 METHODS = {
     ("kinds", "Kind"): [
         "__init__(self, makers)", "__len__(self)", "__eq__(self, other)", "makers(self)", "name(self, maker)",
         "within(self, maker)", "number(self, name)", "poly(self)", "gap(self)", "first_leaf(self)", "first_wide(self)",
+    ],
+    ("turnings", "Turning"): [
+        "__init__(self, kind, rack, steps)", "__len__(self)", "__eq__(self, other)", "steps(self)", "racks(self)",
+        "run(self, thing)", "back(self, thing)", "turned(self)",
     ],
 }
 
