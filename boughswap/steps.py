@@ -2,7 +2,7 @@
 
 from boughswap.errors import NoStep, TooMuch
 from boughswap.racks import forms_fit, need_rack, need_thing
-from boughswap.trees import row_of, trees_in
+from boughswap.trees import parts_of, row_of
 from boughswap.wholes import is_whole
 
 
@@ -91,18 +91,27 @@ def way_back(step):
     return ("close" if word == "open" else "open", place, slot)
 
 
+def all_undone(steps):
+    """The steps that undo a list of steps, the last one's first."""
+    return [way_back(step) for step in reversed(steps)]
+
+
 def led_along(kind, steps, thing):
     """The thing to which steps, each of which can be done behind those ahead, lead a thing."""
     place, row = thing
-    trees = trees_in(kind, row)
+    trees = parts_of(kind, row)
     for step in steps:
-        if step[0] == "order":
-            place = step[1].index(place)
-        elif step[0] == "open":
-            place, trees = _led_open(kind, step, place, trees)
-        else:
-            place, trees = _led_close(kind, step, place, trees)
+        place, trees = led_by(kind, step, place, trees)
     return (place, row_of(trees))
+
+
+def led_by(kind, step, place, trees):
+    """The place and the trees to which a step leads those of a thing; holes may stand for trees."""
+    if step[0] == "order":
+        return (step[1].index(place), trees)
+    if step[0] == "open":
+        return _led_open(kind, step, place, trees)
+    return _led_close(kind, step, place, trees)
 
 
 def _led_open(kind, step, place, trees):
@@ -113,7 +122,7 @@ def _led_open(kind, step, place, trees):
     if place > at:
         return (place + len(kind) - 1, trees)
     tree = trees[slot]
-    return (at + tree[0], trees[:slot] + trees_in(kind, tree[1:]) + trees[slot + 1:])
+    return (at + tree[0], trees[:slot] + parts_of(kind, tree[1:]) + trees[slot + 1:])
 
 
 def _led_close(kind, step, place, trees):

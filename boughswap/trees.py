@@ -3,6 +3,9 @@
 from boughswap.errors import NoTree
 from boughswap.wholes import is_whole
 
+# Stands in a pattern where a whole tree is left out.
+HOLE = -1
+
 
 def is_tree(kind, thing):
     """True where the thing is a tree of the kind."""
@@ -12,9 +15,22 @@ def is_tree(kind, thing):
 
 def trees_in(kind, row):
     """The list of the trees of which a tuple is a row, or None for any other thing."""
-    if not _are_numbers(kind, row):
+    if not _are_numbers(kind, row, 0):
         return None
-    withins = kind.withins()
+    return parts_of(kind, row)
+
+
+def parts_in(kind, row):
+    """Likewise of a row of trees among which, or within which, holes may stand."""
+    if not _are_numbers(kind, row, HOLE):
+        return None
+    return parts_of(kind, row)
+
+
+def parts_of(kind, row):
+    """The list of the trees and holes of a tuple of their numbers, or None where it ends within one."""
+    # A hole's number finds the last of these: no tree stands within a hole.
+    withins = kind.withins() + [0]
     trees = []
     start = 0
     # How many trees are still to come before the one from start on is whole.
@@ -60,6 +76,6 @@ def need_tree(kind, thing):
         raise NoTree("this is no tree of the kind")
 
 
-def _are_numbers(kind, things):
+def _are_numbers(kind, things, low):
     last = len(kind) - 1
-    return isinstance(things, tuple) and all([is_whole(thing, 0, last) for thing in things])
+    return isinstance(things, tuple) and all([is_whole(thing, low, last) for thing in things])

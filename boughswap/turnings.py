@@ -2,7 +2,7 @@
 
 from boughswap.errors import NoMatch, NoTurning, TooMuch
 from boughswap.racks import MOST_FORMS, MOST_TREES, forms_fit, need_rack, need_thing, put_beside, put_times
-from boughswap.steps import forms_after, is_step_on, led_along, way_back
+from boughswap.steps import all_undone, forms_after, is_step_on, led_along
 
 BEFORE_ALL = -1
 
@@ -47,11 +47,11 @@ class Turning:
     def back(self, thing):
         """The thing of the first rack that is led to a thing of the last one."""
         need_thing(self.kind, self.end, thing)
-        return led_along(self.kind, _all_undone(self._steps), thing)
+        return led_along(self.kind, all_undone(self._steps), thing)
 
     def turned(self):
         """The turning from the last rack to the first one that leads each thing back."""
-        return Turning(self.kind, self.end, _all_undone(self._steps))
+        return Turning(self.kind, self.end, all_undone(self._steps))
 
 
 def join(one, two):
@@ -115,10 +115,6 @@ def _end_of(kind, rack, steps):
         if not forms_fit(rack):
             raise NoTurning(at)
     return rack
-
-
-def _all_undone(steps):
-    return [way_back(step) for step in reversed(steps)]
 
 
 def _need_one_kind(one, two):

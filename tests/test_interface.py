@@ -40,6 +40,21 @@ FUNCTIONS = {
         "led_back(kind, rack, step, thing)", "undone(kind, rack, step)", "opens_of(rack)", "closes_of(kind, rack)",
     ],
     "turnings": ["join(one, two)", "turn_beside(one, two)", "turn_spread(rack, turning)", "trimmed(turning)"],
+    "patterns": [
+        "is_pattern(kind, rack, thing)", "holes_of(pattern)", "filled(pattern, trees)",
+        "matched(kind, rack, pattern, thing)",
+    ],
+    "tables": [
+        "table_of(turning)", "by_table(kind, rows, thing)", "are_same(one, two)", "parting_thing(one, two)",
+    ],
+    "noughts": [
+        "nought_of(kind)", "undoing_of(kind)", "grown_from_one(kind)", "grown_by(kind, rack, more)",
+        "contrary_of(kind, rack)", "reach_to(kind, rack, many)",
+    ],
+    "decide": [
+        "quotient_of(kind, one, two)", "are_alike(kind, one, two)", "parting_paper(kind, one, two)",
+        "turning_between(kind, one, two)", "verdict_of(kind, one, two)",
+    ],
 }
 
 METHODS = {
