@@ -1,21 +1,14 @@
 """Patterns: things in whose rows holes stand for trees."""
 
 from boughswap.errors import NoNumber, NoPattern
-from boughswap.racks import need_rack, need_thing
-from boughswap.trees import HOLE, parts_in
-from boughswap.wholes import is_whole
+from boughswap.racks import is_row_at, need_rack, need_thing
+from boughswap.trees import HOLE
 
 
 def is_pattern(kind, rack, thing):
     """True where the thing is a pattern of the rack."""
     need_rack(rack)
-    if not isinstance(thing, tuple) or len(thing) != 2:
-        return False
-    place, row = thing
-    if not is_whole(place, 0, len(rack) - 1):
-        return False
-    parts = parts_in(kind, row)
-    return parts is not None and len(parts) == rack[place]
+    return is_row_at(kind, rack, HOLE, thing)
 
 
 def holes_of(pattern):

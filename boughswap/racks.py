@@ -1,7 +1,7 @@
 """Racks, rows of forms, and their things; racks put beside each other and multiplied."""
 
 from boughswap.errors import NoRack, NoThing, TooMuch
-from boughswap.trees import row_of, trees_in
+from boughswap.trees import parts_in, row_of, trees_in
 from boughswap.wholes import is_whole
 
 MOST_FORMS = 4000
@@ -33,13 +33,18 @@ def has_trees(rack):
 def is_thing(kind, rack, thing):
     """True where the thing is one of the rack."""
     need_rack(rack)
+    return is_row_at(kind, rack, 0, thing)
+
+
+def is_row_at(kind, rack, low, thing):
+    """True where the thing is a place and a row of numbers from low on, of as many parts as the form has trees."""
     if not isinstance(thing, tuple) or len(thing) != 2:
         return False
     place, row = thing
     if not is_whole(place, 0, len(rack) - 1):
         return False
-    trees = trees_in(kind, row)
-    return trees is not None and len(trees) == rack[place]
+    parts = parts_in(kind, low, row)
+    return parts is not None and len(parts) == rack[place]
 
 
 def trees_of(kind, rack, thing):

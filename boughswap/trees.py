@@ -15,14 +15,12 @@ def is_tree(kind, thing):
 
 def trees_in(kind, row):
     """The list of the trees of which a tuple is a row, or None for any other thing."""
-    if not _are_numbers(kind, row, 0):
-        return None
-    return parts_of(kind, row)
+    return parts_in(kind, 0, row)
 
 
-def parts_in(kind, row):
-    """Likewise of a row of trees among which, or within which, holes may stand."""
-    if not _are_numbers(kind, row, HOLE):
+def parts_in(kind, low, row):
+    """Likewise of a row of numbers from low on: 0, or HOLE where holes may stand among trees and within."""
+    if not _are_numbers(kind, low, row):
         return None
     return parts_of(kind, row)
 
@@ -76,6 +74,6 @@ def need_tree(kind, thing):
         raise NoTree("this is no tree of the kind")
 
 
-def _are_numbers(kind, things, low):
+def _are_numbers(kind, low, things):
     last = len(kind) - 1
     return isinstance(things, tuple) and all([is_whole(thing, low, last) for thing in things])

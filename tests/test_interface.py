@@ -55,6 +55,17 @@ FUNCTIONS = {
         "quotient_of(kind, one, two)", "are_alike(kind, one, two)", "parting_paper(kind, one, two)",
         "turning_between(kind, one, two)", "verdict_of(kind, one, two)",
     ],
+    "judge": ["fault_of(kind, one, two, verdict)"],
+    "classes": [
+        "unit_of(kind)", "wanting(kind, one, two)", "power_of(rack, many)", "comes_again(kind, most)",
+        "count_to(kind, rack, size)",
+    ],
+    "texts": [
+        "kind_text(kind)", "read_kind(text)", "tree_text(kind, tree)", "read_tree(kind, text)", "rack_text(rack)",
+        "read_rack(text)", "thing_text(kind, rack, thing)", "read_thing(kind, rack, text)", "step_text(step)",
+        "read_step(text)", "steps_text(steps)", "read_steps(text)", "poly_text(one)", "read_poly(text)",
+        "verdict_text(verdict)", "read_verdict(text)",
+    ],
 }
 
 METHODS = {
@@ -66,6 +77,7 @@ METHODS = {
         "__init__(self, kind, rack, steps)", "__len__(self)", "__eq__(self, other)", "steps(self)", "racks(self)",
         "run(self, thing)", "back(self, thing)", "turned(self)",
     ],
+    ("desk", "Desk"): ["__init__(self)", "say(self, row)"],
 }
 
 LIBRARY = {
